@@ -1,0 +1,12 @@
+"""What a whole number is."""
+
+
+def is_whole(thing):
+    """Whether a thing is a whole number."""
+    # Python counts truths as integers; here they are no numbers.
+    return isinstance(thing, int) and not isinstance(thing, bool)
+
+
+def is_whole_within(thing, least, most):
+    """Whether a thing is a whole number from least to most."""
+    return is_whole(thing) and least <= thing <= most
