@@ -68,9 +68,7 @@ class Floor:
 
     def has_place(self, thing):
         """Whether a thing is a place of this floor."""
-        if not isinstance(thing, tuple) or len(thing) != 3:
-            return False
-        return all([is_whole(part) for part in thing]) and thing in self.sides
+        return isinstance(thing, tuple) and all([is_whole(part) for part in thing]) and thing in self.sides
 
     def refuse_no_place(self, thing):
         """Refuse what is no place of this floor."""

@@ -208,7 +208,7 @@ class TestNoPlaces(unittest.TestCase):
             (10 ** 30, 0, 0),
         ] + reference.OTHER_THINGS
         for thing in wrong:
-            for ask in (floor.beats, floor.knocked, floor.stopped, floor.knockers, floor.stoppers):
+            for ask in (floor.beats, floor.knocked, floor.stopped, floor.knockers, floor.stoppers, floor.kind):
                 with self.subTest(thing=thing, ask=ask.__name__):
                     self.assertRaises(NoPlace, ask, thing)
 
@@ -218,6 +218,7 @@ class TestNoPlaces(unittest.TestCase):
             for ask in (floor.knocked, floor.stopped, floor.knockers, floor.stoppers):
                 self.assertIsInstance(ask(place), list)
             self.assertEqual(floor.beats(place), 1)
+        self.assertEqual([floor.kind(place) for place in floor.places()], ["ew", "x", "x", "Es"])
 
 
 class TestOnesOwn(unittest.TestCase):

@@ -69,6 +69,10 @@ class TestRefused(unittest.TestCase):
         for text in ["ew1", ". .", "ew1\n\n", "\new1\n", "ew1\n\new1\n", "\n", "", "\n\n", "ew1\new1", ".\n.\n\n", "ew1\r\n"]:
             self.assert_no_text(text)
 
+    def test_another_sign_in_the_place_of_the_last_line_feed(self):
+        for text in ["ew12", "..", "ew1.", "ew1 ", ".x", ". .\n. ew12", "ew1/"]:
+            self.assert_no_text(text)
+
     def test_blanks(self):
         for text in [" ew1\n", "ew1 \n", "ew1  ew1\n", " \n", " ", "  \n", ".  .\n", ". \n", " .\n", ".\n .\n", "ew 1\n", "e w1\n"]:
             self.assert_no_text(text)
