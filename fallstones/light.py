@@ -2,7 +2,7 @@
 
 from fallstones.errors import NotLight
 from fallstones.kinds import sort_of
-from fallstones.runs import run
+from fallstones.runs import knockers_in_time, run
 
 
 def is_light(floor):
@@ -30,12 +30,6 @@ def far(floor, one, other):
     return falls_from(floor, one, other).get(other)
 
 
-def knocker_in_time(floor, place, falls):
-    """A place that knocks another one at the very beat at which that one falls."""
-    at = falls[place]
-    return [other for other in floor.knockers(place) if other in falls and falls[other] + floor.beats(other) == at][0]
-
-
 def row_to(floor, one, other):
     """A row of places, each of which knocks the next, by which one is as far from another as it is, or None."""
     falls = falls_from(floor, one, other)
@@ -43,7 +37,7 @@ def row_to(floor, one, other):
         return None
     row = [other]
     while row[-1] != one:
-        row.append(knocker_in_time(floor, row[-1], falls))
+        row.append(knockers_in_time(floor, row[-1], falls)[0])
     return row[::-1]
 
 

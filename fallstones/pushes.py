@@ -1,14 +1,14 @@
 """Pushes: which places are pushed at which beats."""
 
 from fallstones.errors import NoPush
-from fallstones.wholes import is_whole
+from fallstones.wholes import is_from_nought
 
 
 def is_push(floor, thing):
     """Whether a thing is a tuple of a place of the floor and a beat."""
     if not isinstance(thing, tuple) or len(thing) != 2:
         return False
-    return floor.has_place(thing[0]) and is_whole(thing[1]) and thing[1] >= 0
+    return floor.has_place(thing[0]) and is_from_nought(thing[1])
 
 
 def are_pushes(floor, thing):

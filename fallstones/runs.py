@@ -15,6 +15,12 @@ def comings(floor, places, falls):
     return [falls[place] + floor.beats(place) for place in places if place in falls]
 
 
+def knockers_in_time(floor, place, falls):
+    """The sorted list of the places that, as they fall, knock a place at the very beat at which it falls."""
+    near = [other for other in floor.knockers(place) if other in falls]
+    return [other for other in near if falls[other] + floor.beats(other) == falls[place]]
+
+
 def due_by_both(floor, place, falls):
     """The beat at which a heavy place has been knocked from both its in sides, or None."""
     # At an in side stands one place at most that knocks, and it does so once.

@@ -10,3 +10,8 @@ def is_whole(thing):
 def is_whole_within(thing, least, most):
     """Whether a thing is a whole number from least to most."""
     return is_whole(thing) and least <= thing <= most
+
+
+def is_from_nought(thing):
+    """Whether a thing is a whole number from 0 on."""
+    return is_whole(thing) and thing >= 0
