@@ -75,6 +75,13 @@ class Floor:
         if not self.has_place(thing):
             raise NoPlace("a place is a tuple (x, y, line) at which a stone stands")
 
+    def refuse_no_places(self, things):
+        """Refuse what is no list of places of this floor."""
+        if not isinstance(things, list):
+            raise NoPlace("places are told as a list")
+        for thing in things:
+            self.refuse_no_place(thing)
+
     def kind(self, place):
         """The kind of the stone at a place."""
         self.refuse_no_place(place)

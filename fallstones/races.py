@@ -1,6 +1,5 @@
 """Races of blocks that are due and stopped at one beat, and runs in which some of them are let fall."""
 
-from fallstones.errors import NoPlace
 from fallstones.pushes import refuse_no_pushes
 from fallstones.runs import course
 
@@ -14,9 +13,6 @@ def races(floor, pushes):
 def run_by(floor, pushes, firsts):
     """The run by pushes in which the blocks of a list of places fall where they race."""
     refuse_no_pushes(floor, pushes)
-    if not isinstance(firsts, list):
-        raise NoPlace("firsts are a list of places")
-    for place in firsts:
-        floor.refuse_no_place(place)
+    floor.refuse_no_places(firsts)
     falls, stopped, raced = course(floor, pushes, firsts)
     return (falls, stopped)

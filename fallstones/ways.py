@@ -1,6 +1,6 @@
 """Ways in: pushes that always come and pushes that may come, and what a floor answers to each choice of these."""
 
-from fallstones.errors import NoChoice, NoPlace, NoWays
+from fallstones.errors import NoChoice, NoWays
 from fallstones.pushes import are_pushes
 from fallstones.races import races
 from fallstones.runs import run
@@ -58,10 +58,7 @@ def answer(floor, pushes, places):
 def answers(floor, ways, places):
     """The list of the answers of places to each choice, in order."""
     refuse_no_ways(floor, ways)
-    if not isinstance(places, list):
-        raise NoPlace("places are told as a list")
-    for place in places:
-        floor.refuse_no_place(place)
+    floor.refuse_no_places(places)
     return [answer(floor, chosen(ways, choice), places) for choice in choices(len(ways[1]))]
 
 
