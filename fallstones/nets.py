@@ -36,6 +36,18 @@ def refuse_no_net(thing):
         raise NoNet("a net is a list of nodes, whose parts are earlier ones")
 
 
+def parts_of(node):
+    """The tuple of the numbers of a node's parts."""
+    if node[0] in ("in", "go"):
+        return ()
+    return node[1:2] if node[0] == "late" else node[1:]
+
+
+def is_source(node):
+    """Whether a node is an in or go, which have no parts."""
+    return parts_of(node) == ()
+
+
 def ways_needed(net):
     """How many ways in a net has at least: one more than the greatest k of its ins, and never none."""
     return max([node[1] + 1 for node in net if node[0] == "in"], default=1)

@@ -3,12 +3,17 @@
 from fallstones.errors import NoNumber
 from fallstones.nets import MOST_ARRIVALS, refuse_no_net, ways_needed
 from fallstones.ways import choices, comes
-from fallstones.wholes import is_whole_within
+from fallstones.wholes import is_odd_at, is_whole_within
 
 
 def table_of(choices_so):
     """The table of what is so in the choices told."""
     return sum([1 << choice for choice in choices_so])
+
+
+def is_so_in(table, choice):
+    """Whether a choice is one of those in which a table is so."""
+    return is_odd_at(table, choice)
 
 
 def node_table(node, tables, n):

@@ -4,7 +4,7 @@ from fallstones.errors import NoChoice, NoWays
 from fallstones.pushes import are_pushes
 from fallstones.races import races
 from fallstones.runs import run
-from fallstones.wholes import is_whole_within
+from fallstones.wholes import is_odd_at, is_whole_within
 
 MOST_INS = 6
 
@@ -32,7 +32,7 @@ def choices(many):
 
 def comes(choice, k):
     """Whether way in number k comes in a choice."""
-    return (choice >> k) & 1 == 1
+    return is_odd_at(choice, k)
 
 
 def chosen(ways, choice):

@@ -15,3 +15,8 @@ def is_whole_within(thing, least, most):
 def is_from_nought(thing):
     """Whether a thing is a whole number from 0 on."""
     return is_whole(thing) and thing >= 0
+
+
+def is_odd_at(number, k):
+    """Whether a number is odd when it is halved k times, rounded down."""
+    return (number >> k) & 1 == 1

@@ -1,5 +1,6 @@
 """What nets tell, told a second time: by going back from each node to what it comes from."""
 
+import itertools
 from functools import lru_cache
 
 WORDS = ("in", "go", "or", "both", "unless", "late")
@@ -35,6 +36,47 @@ def is_so(net, at, choice):
         return one
     other = is_so(net, rest[1], choice)
     return {"or": one or other, "both": one and other, "unless": one and not other}[word]
+
+
+def parts(node):
+    """The numbers of a node's parts, in order."""
+    return list({"in": (), "go": (), "late": node[1:2]}.get(node[0], node[1:]))
+
+
+def times(net, lates):
+    """The times by lates, or None where these are not right."""
+
+    def come(at, part):
+        return time(parts(net[at])[part]) + lates[at][part]
+
+    def time(at):
+        word = net[at][0]
+        if word in ("in", "go"):
+            return 0
+        if word == "late":
+            return come(at, 0) + net[at][2]
+        return max(come(at, 0), come(at, 1)) if word == "both" else come(at, 0)
+
+    for at, node in enumerate(net):
+        if node[0] == "or" and come(at, 0) != come(at, 1):
+            return None
+        if node[0] == "unless" and come(at, 0) <= come(at, 1):
+            return None
+    return [time(at) for at in range(len(net))]
+
+
+def lates_up_to(net, most):
+    """All lates of a net with no number above the told one."""
+    rows = [list(itertools.product(range(most + 1), repeat=len(parts(node)))) for node in net]
+    return [list(lates) for lates in itertools.product(*rows)]
+
+
+def random_lates(chance, net, most=3):
+    return [tuple(chance.randint(0, most) for _ in parts(node)) for node in net]
+
+
+def way_length(net, way):
+    return sum(net[at][2] if net[at][0] == "late" else int(net[at][0] == "unless" and part == 1) for at, part in way)
 
 
 def random_net(chance, most=9, ways=3, words=WORDS, most_late=4):
