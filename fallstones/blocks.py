@@ -49,6 +49,12 @@ def unreached(maker, always, reached):
     return lows + [is_low] + highs
 
 
+def all_but_always(maker, always, nodes):
+    """The number of a node that is so where all of some nodes are, by no more nodes than that needs."""
+    narrow = [node for node in nodes if node != always]
+    return maker.all_of(narrow) if narrow else always
+
+
 def table_node(maker, n, always, table, levels, ends):
     """The number of a node that tells a table, or None for the table 0.
 
@@ -59,7 +65,7 @@ def table_node(maker, n, always, table, levels, ends):
     for level, end in enumerate(ends):
         told = [choice for choice in choices(n) if levels[choice] == level and is_so_in(table, choice)]
         if told:
-            parts.append(maker.all_of([rising_node(maker, n, always, told), end]))
+            parts.append(all_but_always(maker, always, [rising_node(maker, n, always, told), end]))
     return maker.any_of(parts)
 
 

@@ -79,6 +79,12 @@ def way_length(net, way):
     return sum(net[at][2] if net[at][0] == "late" else int(net[at][0] == "unless" and part == 1) for at, part in way)
 
 
+def pushes_by(ins, goes, arrivals):
+    """The pushes by which arrivals come to a laid net."""
+    told = [(place, arrivals[k]) for k, place in ins.items() if arrivals[k] is not None]
+    return told + [(place, 0) for place in goes]
+
+
 def random_net(chance, most=9, ways=3, words=WORDS, most_late=4):
     net = []
     for at in range(chance.randint(1, most)):
